@@ -1,0 +1,1 @@
+"""Marketdays: market days of unknown turns."""

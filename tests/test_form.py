@@ -1,0 +1,77 @@
+"""Tests that the interface stands where the document lists it, and of the sizes and characters of the files."""
+
+import ast
+import os
+import unittest
+
+FOLDER = os.path.join(os.path.dirname(os.path.dirname(os.path.abspath(__file__))), "marketdays")
+
+FUNCTIONS = {
+    "lots.py": {"lot": ["every", "rests"], "met": ["one", "other"], "joined": ["one", "other"],
+                "less": ["one", "other"], "has": ["one", "day"], "next_day": ["one", "day"],
+                "number": ["one", "low", "high"], "widest": ["one"]},
+}
+CLASSES = {
+    "errors.py": {"MarketError": {"__init__": ["self", "value"]}, "InvalidName": {}, "InvalidTown": {},
+                  "DoubleTown": {}, "InvalidNote": {}, "UnknownTown": {}, "UnknownNote": {}, "InvalidDay": {},
+                  "InvalidLot": {}, "Quarrel": {}, "NothingToUndo": {}, "Unreadable": {}},
+    "diaries.py": {"Diary": {"__init__": ["self", "towns", "notes"], "towns": ["self"], "notes": ["self"],
+                             "names": ["self"], "with_note": ["self", "note"], "without": ["self", "index"],
+                             "__len__": ["self"], "__eq__": ["self", "other"]}},
+}
+
+
+def text_of(name):
+    with open(os.path.join(FOLDER, name), encoding="utf-8", newline="") as file:
+        return file.read()
+
+
+def defined(body, kind):
+    return {row.name: row for row in body if isinstance(row, kind)}
+
+
+def parameters(function):
+    return [parameter.arg for parameter in function.args.args]
+
+
+class FormTest(unittest.TestCase):
+
+    def test_functions_are_defined_where_they_are_listed(self):
+        for name, functions in FUNCTIONS.items():
+            found = defined(ast.parse(text_of(name)).body, ast.FunctionDef)
+            for function, told in functions.items():
+                self.assertEqual(parameters(found[function]), told)
+
+    def test_classes_and_their_methods_are_defined_where_they_are_listed(self):
+        for name, classes in CLASSES.items():
+            found = defined(ast.parse(text_of(name)).body, ast.ClassDef)
+            for made, methods in classes.items():
+                own = defined(found[made].body, ast.FunctionDef)
+                for method, told in methods.items():
+                    self.assertEqual(parameters(own[method]), told)
+
+    def test_sizes_and_characters(self):
+        for name in sorted(os.listdir(FOLDER)):
+            if name == "__pycache__":
+                continue
+            text = text_of(name)
+            self.assertTrue(name.endswith(".py"))
+            self.assertTrue(all(letter == "\n" or " " <= letter <= "~" for letter in text), name)
+            self.assertLessEqual(len(text.splitlines()), 399, name)
+            self.assertLessEqual(max(map(len, text.splitlines())), 120, name)
+            for row in ast.walk(ast.parse(text)):
+                if isinstance(row, ast.FunctionDef):
+                    self.assertLessEqual(row.end_lineno - row.lineno + 1, 40, row.name)
+
+    def test_imports(self):
+        for name in sorted(os.listdir(FOLDER)):
+            if name == "__pycache__":
+                continue
+            for row in ast.walk(ast.parse(text_of(name))):
+                self.assertNotIsInstance(row, ast.Import)
+                if isinstance(row, ast.ImportFrom):
+                    self.assertTrue(row.module == "math" or row.module.startswith("marketdays."), row.module)
+
+
+if __name__ == "__main__":
+    unittest.main()
