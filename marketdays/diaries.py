@@ -74,10 +74,15 @@ def check_note(names, note):
     if not note or len(note) != THINGS.get(note[0]):
         raise InvalidNote(note)
     asked = note[1:-1]
-    for name in asked:
-        if name not in names:
-            raise UnknownTown(name)
+    check_asked(names, asked)
     if len(asked) == 2 and asked[0] == asked[1]:
         raise InvalidNote(note)
     if note[-1] < 0:
         raise InvalidDay(note[-1])
+
+
+def check_asked(names, asked):
+    """Raise UnknownTown for the first name that is asked of and is no town's."""
+    for name in asked:
+        if name not in names:
+            raise UnknownTown(name)

@@ -10,6 +10,16 @@ FUNCTIONS = {
     "lots.py": {"lot": ["every", "rests"], "met": ["one", "other"], "joined": ["one", "other"],
                 "less": ["one", "other"], "has": ["one", "day"], "next_day": ["one", "day"],
                 "number": ["one", "low", "high"], "widest": ["one"]},
+    "cases.py": {"keeps": ["diary", "case"], "quarrels": ["diary"], "first_case": ["diary"],
+                 "choices": ["diary", "town"], "couples": ["diary", "town", "other"], "number_of_cases": ["diary"]},
+    "sure.py": {"says": ["diary", "town", "day"], "sure": ["diary", "town"], "never": ["diary", "town"],
+                "open_days": ["diary", "town"], "both": ["diary", "town", "other"],
+                "apart": ["diary", "town", "other"], "alike_days": ["diary", "town", "other"],
+                "unlike_days": ["diary", "town", "other"], "either": ["diary", "town", "other"],
+                "follows": ["diary", "note"], "latest": ["diary", "town", "day"],
+                "meeting": ["diary", "town", "other"], "latest_meeting": ["diary", "town", "other", "day"],
+                "markets": ["diary", "town", "low", "high"]},
+    "papers.py": {"paper": ["diary", "town", "day"], "judge_paper": ["diary", "town", "day", "word", "told"]},
 }
 CLASSES = {
     "errors.py": {"MarketError": {"__init__": ["self", "value"]}, "InvalidName": {}, "InvalidTown": {},
