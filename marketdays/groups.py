@@ -1,6 +1,7 @@
 """Groups: the towns that hang together, as lists of their names in order, and their lots of choices."""
 
-from marketdays.turns import choices_of, is_kept
+from marketdays.bits import picked
+from marketdays.turns import choices_of, is_kept, keeping, number_with
 
 
 def group_of(diary, town):
@@ -47,17 +48,26 @@ def lots_keeping(diary, names, asked):
     towns = [town for town in diary.towns if town[0] in names]
     lots = [[]]
     for last, town in enumerate(towns):
-        own = choices_of(town)
-        # Each note is asked as soon as it can be, and only of what is left: that keeps the lists short.
-        for _, note, places in asked:
-            if places == [last]:
-                own = [choice for choice in own if is_kept(note, [choice])]
-        lots = [chosen + [choice] for chosen in lots for choice in own]
-        for _, note, places in asked:
-            if len(places) == 2 and max(places) == last:
-                one, other = places
-                lots = [chosen for chosen in lots if is_kept(note, [chosen[one], chosen[other]])]
+        # Each note is asked as soon as all its towns have a choice: that keeps the lists short.
+        due = [(note, places) for _, note, places in asked if max(places) == last]
+        lots = longer_lots(lots, choices_of(town), last, due)
     return lots
+
+
+def longer_lots(lots, own, last, due):
+    """Return the lots with one choice more, of the last town, that keep notes of it and of towns ahead of it."""
+    rows = [(note[-1], [place for place in places if place != last], [keeping(note, own, ahead) for ahead in (0, 1)])
+            for note, places in due]
+    ways = {}
+    found = []
+    for chosen in lots:
+        bits = (1 << len(own)) - 1
+        for day, others, kept in rows:
+            bits = bits & kept[number_with([chosen[other] for other in others], day)]
+        if bits not in ways:
+            ways[bits] = picked(own, bits)
+        found.extend([chosen + [choice] for choice in ways[bits]])
+    return found
 
 
 def all_lots(diary, group):

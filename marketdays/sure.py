@@ -5,14 +5,14 @@ from math import lcm
 from marketdays.cases import check_two, choices, couples
 from marketdays.diaries import check_asked, check_note
 from marketdays.lots import check_day, lot, met, next_day, number
-from marketdays.turns import has_market, is_kept, number_with
+from marketdays.turns import has_market, is_kept, number_with, wait_of
 
 
 def says(diary, town, day):
     """Return "market" or "none" if that is sure of a town and a day, otherwise "open"."""
     check_asked(diary.names(), [town])
     check_day(day)
-    return word_of([has_market(choice, day) for choice in choices(diary, town)], "market", "none")
+    return word_on(choices(diary, town), day)
 
 
 def sure(diary, town):
@@ -71,7 +71,7 @@ def latest(diary, town, day):
     """Return the greatest number of days that one may have to wait for market in a town, from a day on."""
     check_asked(diary.names(), [town])
     check_day(day)
-    return max([(first - day) % turn for turn, first in choices(diary, town)])
+    return max([wait_of(choice, day) for choice in choices(diary, town)])
 
 
 def meeting(diary, town, other):
@@ -101,6 +101,11 @@ def markets(diary, town, low, high):
 def alone(diary, town):
     """Return the choices of a town in cases that fit, each in a row of its own."""
     return [(choice,) for choice in choices(diary, town)]
+
+
+def word_on(found, day):
+    """Return the word of a day for a town that has one of some choices."""
+    return word_of([has_market(choice, day) for choice in found], "market", "none")
 
 
 def word_of(found, yes, no):

@@ -1,5 +1,7 @@
 """Turns: the choices of towns, and which notes they keep."""
 
+from marketdays.bits import bits_of
+
 # A note is kept if just so many of its towns have market on its day.
 KEPT_BY = {"market": (1,), "none": (0,), "one": (1,), "same": (0, 2)}
 
@@ -28,3 +30,14 @@ def number_with(chosen, day):
 def is_kept(note, chosen):
     """Return True if a note is kept by choices of the towns that it asks of, otherwise False."""
     return number_with(chosen, note[-1]) in KEPT_BY[note[0]]
+
+
+def keeping(note, own, ahead):
+    """Return the bits of a town's choices that keep a note, if so many of its other towns have market on its day."""
+    return bits_of([ahead + number_with([choice], note[-1]) in KEPT_BY[note[0]] for choice in own])
+
+
+def wait_of(choice, day):
+    """Return the number of days to wait for market by a choice, from a day on."""
+    turn, first = choice
+    return (first - day) % turn

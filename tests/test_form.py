@@ -20,6 +20,17 @@ FUNCTIONS = {
                 "meeting": ["diary", "town", "other"], "latest_meeting": ["diary", "town", "other", "day"],
                 "markets": ["diary", "town", "low", "high"]},
     "papers.py": {"paper": ["diary", "town", "day"], "judge_paper": ["diary", "town", "day", "word", "told"]},
+    "needs.py": {"needless": ["diary"], "least_notes": ["diary"], "quarrel_sets": ["diary"], "alike": ["one", "other"],
+                 "first_unlike": ["one", "other"], "reasons": ["diary", "town", "day"], "mends": ["diary"],
+                 "first_day": ["one", "other", "town"]},
+    "visits.py": {"left": ["diary", "town", "day"], "best_visit": ["diary", "town", "days"],
+                  "visits": ["diary", "town", "days", "goal"], "plan": ["diary", "town", "days", "goal"],
+                  "judge_plan": ["diary", "town", "told", "goal"], "longest": ["told"],
+                  "hold": ["diary", "town", "days", "many", "goal"],
+                  "judge_hold": ["diary", "town", "days", "many", "told", "goal"]},
+    "watches.py": {"left_behind": ["diary", "town", "day", "seen"], "watch": ["diary", "town", "day"],
+                   "longest_watch": ["diary", "town"], "doubt": ["diary", "town"],
+                   "judge_doubt": ["diary", "town", "told"]},
 }
 CLASSES = {
     "errors.py": {"MarketError": {"__init__": ["self", "value"]}, "InvalidName": {}, "InvalidTown": {},
@@ -80,7 +91,7 @@ class FormTest(unittest.TestCase):
             for row in ast.walk(ast.parse(text_of(name))):
                 self.assertNotIsInstance(row, ast.Import)
                 if isinstance(row, ast.ImportFrom):
-                    self.assertTrue(row.module == "math" or row.module.startswith("marketdays."), row.module)
+                    self.assertTrue(row.module in ("math", "itertools") or row.module.startswith("marketdays."), row.module)
 
 
 if __name__ == "__main__":

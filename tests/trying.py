@@ -1,6 +1,6 @@
 """What all cases of small diaries say, gone through one by one and day by day, for comparison with the program."""
 
-from itertools import product
+from itertools import combinations, product
 from math import lcm
 from random import Random
 
@@ -158,3 +158,20 @@ GREAT = [
      [("market", "ulm", 5), ("one", "ulm", "bonn", 6), ("same", "bonn", "ulm", 7), ("one", "ulm", "bonn", 12),
       ("market", "bonn", 6), ("none", "wien", 9)]),
 ]
+
+
+def parts_of(things):
+    """Return all lists of some things, ascending each, by their number, then as lists."""
+    return [list(part) for size in range(len(things) + 1) for part in combinations(things, size)]
+
+
+def least_sets(many, test):
+    """Return all sets of numbers below a number that pass a test, and of which no part does."""
+    passed = [chosen for chosen in parts_of(range(many)) if test(chosen)]
+    return [chosen for chosen in passed if not [one for one in passed if set(one) < set(chosen)]]
+
+
+def word_by_trying(towns, cases, town, day):
+    """Return what cases surely say of a town and a day."""
+    return {"surely": "market", "never": "none", "open": "open"}[
+        surely(cases, lambda case: shows(case[[one[0] for one in towns].index(town)], day))]
