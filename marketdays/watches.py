@@ -37,7 +37,6 @@ def longest_watch(diary, town):
 
 def doubt(diary, town):
     """Return (choice, choice, day, many) of two choices that do the same on most days in a row; None if one is left."""
-    check_asked(diary.names(), [town])
     found = choices(diary, town)
     rows = [(one, other) + longest_alike(one, other) for one, other in combinations(found, 2)]
     return max(rows, key=lambda row: row[3], default=None)
@@ -45,7 +44,6 @@ def doubt(diary, town):
 
 def judge_doubt(diary, town, told):
     """Return True if two choices show that so many days in a row from a day on do not suffice, otherwise False."""
-    check_asked(diary.names(), [town])
     found = choices(diary, town)
     if told is None:
         return False

@@ -1,6 +1,7 @@
-"""Tests that the interface stands where the document lists it, and of the sizes and characters of the files."""
+"""Tests that the interface stands where the document lists it, and of what the files may contain."""
 
 import ast
+import builtins
 import os
 import unittest
 
@@ -31,6 +32,11 @@ FUNCTIONS = {
     "watches.py": {"left_behind": ["diary", "town", "day", "seen"], "watch": ["diary", "town", "day"],
                    "longest_watch": ["diary", "town"], "doubt": ["diary", "town"],
                    "judge_doubt": ["diary", "town", "told"]},
+    "journeys.py": {"journey": ["diary", "order", "day"], "best_order": ["diary", "names", "day"],
+                    "chosen_journey": ["diary", "names", "day"], "travel": ["diary", "names", "day"],
+                    "judge_travel": ["diary", "names", "day", "told", "most"]},
+    "texts.py": {"show_diary": ["diary"], "show_lot": ["one"]},
+    "readings.py": {"read_diary": ["text"], "read_lot": ["text"]},
 }
 CLASSES = {
     "errors.py": {"MarketError": {"__init__": ["self", "value"]}, "InvalidName": {}, "InvalidTown": {},
@@ -39,6 +45,9 @@ CLASSES = {
     "diaries.py": {"Diary": {"__init__": ["self", "towns", "notes"], "towns": ["self"], "notes": ["self"],
                              "names": ["self"], "with_note": ["self", "note"], "without": ["self", "index"],
                              "__len__": ["self"], "__eq__": ["self", "other"]}},
+    "books.py": {"Book": {"__init__": ["self", "towns"], "__call__": ["self", "note"], "diary": ["self"],
+                          "fresh": ["self", "note"], "undo": ["self"], "__len__": ["self"],
+                          "__eq__": ["self", "other"]}},
 }
 
 
@@ -83,6 +92,32 @@ class FormTest(unittest.TestCase):
             for row in ast.walk(ast.parse(text)):
                 if isinstance(row, ast.FunctionDef):
                     self.assertLessEqual(row.end_lineno - row.lineno + 1, 40, row.name)
+
+    def trees(self):
+        """Return tuples (name, tree) of all files."""
+        return [(name, ast.parse(text_of(name))) for name in sorted(os.listdir(FOLDER)) if name != "__pycache__"]
+
+    def test_names_that_are_given(self):
+        for name, tree in self.trees():
+            taken = set(dir(builtins)) | {row.name for row in tree.body if isinstance(row, ast.ClassDef)}
+            taken |= {alias.name for row in tree.body if isinstance(row, ast.ImportFrom) for alias in row.names}
+            given = {row.id for row in ast.walk(tree) if isinstance(row, ast.Name) and isinstance(row.ctx, ast.Store)}
+            given |= {row.arg for row in ast.walk(tree) if isinstance(row, ast.arg)}
+            self.assertEqual(given & taken, set(), name)
+
+    def test_imports_are_used(self):
+        for name, tree in self.trees():
+            used = {row.id for row in ast.walk(tree) if isinstance(row, ast.Name)}
+            for row in tree.body:
+                for alias in row.names if isinstance(row, ast.ImportFrom) else []:
+                    self.assertIn(alias.name, used, name)
+
+    def test_what_is_not_used(self):
+        for name, tree in self.trees():
+            for row in ast.walk(tree):
+                self.assertNotIsInstance(row, (ast.GeneratorExp, ast.Global, ast.Yield, ast.Pow, ast.Div), name)
+                self.assertFalse(isinstance(row, ast.Constant) and isinstance(row.value, float), name)
+                self.assertFalse(isinstance(row, ast.Attribute) and row.attr == "sort", name)
 
     def test_imports(self):
         for name in sorted(os.listdir(FOLDER)):
